@@ -1,0 +1,1 @@
+"""Pushshelf: blocks on a shelf, and a hand in its gaps."""
