@@ -59,6 +59,11 @@ def gap_length(shelf, gap):
     return sum(shelf[1][:gap])
 
 
+def places_of(shelf, stand):
+    """Of each block its left end less the lengths ahead of it."""
+    return [left - gap_length(shelf, at) for at, left in enumerate(stand)]
+
+
 def packed(shelf, start):
     """The stand with all blocks close together from start on."""
     return tuple([start + gap_length(shelf, at) for at in range(len(shelf[1]))])

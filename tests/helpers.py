@@ -107,9 +107,22 @@ def mirrored_stand(shelf, stand):
     return tuple(shelf[0] - left - length for left, length in zip(stand, shelf[1]))[::-1]
 
 
+def mirrored_doing(shelf, doing):
+    least, greatest = doing
+    return (mirrored_stand(shelf, greatest), mirrored_stand(shelf, least))
+
+
 def mirrored_row(shelf, row):
     other = {"right": "left", "left": "right"}
     return [(other[side], len(shelf[1]) - gap, shelf[0] - place) for side, gap, place in row]
+
+
+def places(shelf, stand):
+    return [left - ahead for left, ahead in zip(stand, lengths_ahead(shelf))]
+
+
+def stand_at(shelf, places):
+    return tuple(place + ahead for place, ahead in zip(places, lengths_ahead(shelf)))
 
 
 def nested(kind, depth):

@@ -65,10 +65,8 @@ class DoingOf(unittest.TestCase):
         for many in list(range(1, 9)) * 5:
             shelf = helpers.any_shelf(chance, many)
             row = helpers.any_row(chance, shelf, 9)
-            least, greatest = doing_of(shelf, row)
             back = doing_of(helpers.mirrored_shelf(shelf), helpers.mirrored_row(shelf, row))
-            mirrored = (helpers.mirrored_stand(shelf, greatest), helpers.mirrored_stand(shelf, least))
-            self.assertEqual(back, mirrored)
+            self.assertEqual(back, helpers.mirrored_doing(shelf, doing_of(shelf, row)))
 
 
 class IsDoing(unittest.TestCase):

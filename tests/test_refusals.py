@@ -3,7 +3,7 @@
 import copy
 import unittest
 
-from pushshelf import doings, shelves
+from pushshelf import benches, counted, doings, fewest, shelves
 from pushshelf.errors import NoDoing, NoRow, NoShelf, NoStand
 from tests import helpers
 
@@ -42,6 +42,13 @@ CALLS = [
     (doings.row_for, ["shelf", "doing"]),
     (doings.alike, ["shelf", "row", "row"]),
     (doings.parted, ["shelf", "row", "row"]),
+    (counted.stands, ["shelf"]),
+    (counted.doings, ["shelf"]),
+    (counted.leading, ["shelf", "doing", "stand"]),
+    (fewest.fewest, ["shelf", "stand", "stand"]),
+    (fewest.pushes_to, ["shelf", "stand", "stand"]),
+    (fewest.leads, ["shelf", "stand", "stand", "thing"]),
+    (benches.Bench, ["shelf", "stand"]),
 ]
 
 
@@ -96,6 +103,12 @@ class Refusals(unittest.TestCase):
             (doings.led, [other, ((0,), (1,)), STAND], NoStand),
             (doings.joined, [other, ((0,), (1,)), DOING], NoDoing),
             (doings.alike, [other, [], [PUSH]], NoRow),
+            (counted.leading, [other, DOING, STAND], NoDoing),
+            (counted.leading, [other, ((0,), (1,)), STAND], NoStand),
+            (fewest.fewest, [other, STAND, (0,)], NoStand),
+            (fewest.pushes_to, [other, (0,), STAND], NoStand),
+            (fewest.leads, [other, (0,), STAND, [PUSH]], NoStand),
+            (benches.Bench, [other, STAND], NoStand),
         ]:
             self.refused(call, arguments, refusal)
 
@@ -120,15 +133,21 @@ class NothingIsChanged(unittest.TestCase):
             shelves.is_shelf(thing)
             for call in [shelves.is_stand, shelves.is_row, doings.is_doing]:
                 call(SHELF, thing)
+            fewest.leads(SHELF, STAND, STAND, thing)
         self.assertEqual(things, before)
 
     def test_every_told_row_is_the_askers_own(self):
-        first = doings.row_for(SHELF, DOING)
-        kept = list(first)
-        first.clear()
-        second = doings.row_for(SHELF, DOING)
-        self.assertEqual(second, kept)
-        self.assertIsNot(second, doings.row_for(SHELF, DOING))
+        for call, arguments in [
+            (doings.row_for, [SHELF, DOING]),
+            (fewest.pushes_to, [SHELF, STAND, (2, 5, 11)]),
+            (fewest.pushes_to, [SHELF, STAND, STAND]),
+        ]:
+            first = call(*arguments)
+            kept = list(first)
+            first.append(PUSH)
+            second = call(*arguments)
+            self.assertEqual(second, kept)
+            self.assertIsNot(second, call(*arguments))
 
     def test_a_row_changed_by_its_owner_changes_no_answer_told(self):
         row = [PUSH]
@@ -145,6 +164,9 @@ class Interface(unittest.TestCase):
         for module, names in [
             (shelves, ["is_shelf", "is_stand", "is_row", "behind"]),
             (doings, ["doing_of", "is_doing", "led", "joined", "row_for", "alike", "parted"]),
+            (counted, ["stands", "doings", "leading"]),
+            (fewest, ["fewest", "pushes_to", "leads"]),
+            (benches, ["Bench"]),
         ]:
             for name in names:
                 self.assertEqual(getattr(module, name).__module__, module.__name__)
